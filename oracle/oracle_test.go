@@ -270,7 +270,9 @@ func TestUnlikeQuestions(t *testing.T) {
 	first := api.Question{Kind: api.QTag, Key: digest(1), Domain: 5, Data: []byte{1, 2}}
 	others := []api.Question{
 		{Kind: api.QKey, Key: digest(1), Domain: 5, Data: []byte{1, 2}},
-		{Kind: api.QDigest, Key: digest(1), Domain: 5, Data: []byte{1, 2}},
+		{Kind: api.QDigest, Domain: 5, Data: []byte{1, 2}},
+		{Kind: api.QTag, Domain: 5, Data: []byte{1, 2}},
+		{Kind: api.QKey, Domain: 5, Data: []byte{1, 2}},
 		{Kind: api.QTag, Key: digest(2), Domain: 5, Data: []byte{1, 2}},
 		{Kind: api.QTag, Key: digest(1), Domain: 6, Data: []byte{1, 2}},
 		{Kind: api.QTag, Key: digest(1), Domain: 5, Data: []byte{1, 3}},
@@ -351,6 +353,74 @@ func TestAskRefused(t *testing.T) {
 		}
 		if a, e := o.Ask(api.Question{Kind: api.QTag, Domain: 1}); e != api.OK || ideal && a != distinct(1)[0] {
 			t.Error("what was refused had a draw", ideal, a, e)
+		}
+	}
+}
+
+// keys is keys that are not noughts, by one bit, whichever it is, or by all bytes.
+func keys() []api.Digest {
+	out := []api.Digest{digest(1)}
+	for bit := range 256 {
+		var k api.Digest
+		k[bit/8] = 1 << (bit % 8)
+		out = append(out, k)
+	}
+	return out
+}
+
+// Of QDigest the Key is noughts: what has another one is no question.
+func TestDigestWithAKeyIsRefused(t *testing.T) {
+	refused := func(o *oracle.Oracle, key api.Digest, d api.Domain, data []byte) {
+		t.Helper()
+		q := api.Question{Kind: api.QDigest, Key: key, Domain: d, Data: data}
+		if a, e := o.Ask(q); e != api.ErrArg || a != (api.Digest{}) {
+			t.Errorf("%v: %v: %x, %v", o.Ideal(), q, a, e)
+		}
+	}
+	for _, ideal := range []bool{false, true} {
+		o := oracle.New(ideal, digest(1), distinct(2)...)
+		for _, k := range keys() {
+			refused(o, k, api.DomParams, nil)
+		}
+		for d := api.Domain(-1); d <= 17; d++ {
+			refused(o, digest(1), d, sample(3))
+		}
+		wantLog(t, o)
+		if o.Used() != 0 {
+			t.Error("what was refused had a draw", o.Used())
+		}
+		first := api.Question{Kind: api.QDigest, Domain: api.DomParams}
+		want := elsewhere(first)
+		if ideal {
+			want = distinct(1)[0]
+		}
+		a, e := o.Ask(first)
+		wantDigest(t, a, e, want)
+		// Nor does it have the answer that the question with noughts had.
+		refused(o, digest(1), first.Domain, first.Data)
+		wantLog(t, o, api.Asked{Question: first, Answer: want})
+	}
+}
+
+func TestOtherKindsHaveAnyKey(t *testing.T) {
+	all := append(keys(), api.Digest{})
+	for _, ideal := range []bool{false, true} {
+		o := oracle.New(ideal, digest(1))
+		for i, k := range all {
+			for _, kind := range []api.QKind{api.QTag, api.QKey} {
+				q := api.Question{Kind: kind, Key: k, Domain: api.DomOther}
+				a, e := o.Ask(q)
+				if e != api.OK || !ideal && a != elsewhere(q) {
+					t.Errorf("%v: %v: %x, %v", ideal, q, a, e)
+				}
+			}
+			q := api.Question{Kind: api.QStream, Key: k, Domain: api.DomOther}
+			if s, e := o.Stream(q, 32); e != api.OK || len(s) != 32 {
+				t.Errorf("%v: %v: %x, %v", ideal, q, s, e)
+			}
+			if len(o.Log()) != 3*(i+1) {
+				t.Fatal(ideal, k, len(o.Log()))
+			}
 		}
 	}
 }
@@ -699,7 +769,8 @@ func TestNonesOfWrongInput(t *testing.T) {
 		_, g := o.Digest(0)
 		_, h := o.Tag(api.Digest{}, 17)
 		_, j := o.Key(-1)
-		for _, e := range []api.Errno{e, f, g, h, j} {
+		_, k := o.Ask(api.Question{Kind: api.QDigest, Key: digest(1), Domain: 1})
+		for _, e := range []api.Errno{e, f, g, h, j, k} {
 			if e != api.ErrNil {
 				t.Error(i, e)
 			}
@@ -1054,15 +1125,26 @@ func (m *model) stream(t *testing.T, q api.Question, n int) []byte {
 
 // randomQuestion is one of few, wrong ones among them, so that some come again.
 func randomQuestion(chance *rand.Rand) api.Question {
-	q := api.Question{
+	return api.Question{
 		Kind:   api.QKind(chance.Intn(6)),
+		Key:    []api.Digest{{}, {}, digest(0)}[chance.Intn(3)],
 		Domain: []api.Domain{-1, 0, 1, 2, 16, 16, 17}[chance.Intn(7)],
 		Data:   sample(chance.Intn(3)),
 	}
-	if q.Kind != api.QDigest {
-		q.Key = digest(byte(chance.Intn(2)))
+}
+
+// answered says whether Ask answers q.
+func answered(q api.Question) bool {
+	if q.Domain < 1 || q.Domain > 16 {
+		return false
 	}
-	return q
+	switch q.Kind {
+	case api.QDigest:
+		return q.Key == api.Digest{}
+	case api.QTag, api.QKey:
+		return true
+	}
+	return false
 }
 
 func TestAnyInput(t *testing.T) {
@@ -1076,9 +1158,8 @@ func TestAnyInput(t *testing.T) {
 		o := oracle.New(m.ideal, digest(1), draws...)
 		for range 80 {
 			q := randomQuestion(chance)
-			domain := q.Domain >= 1 && q.Domain <= 16
 			a, e := o.Ask(q)
-			if q.Kind < api.QDigest || q.Kind > api.QKey || !domain {
+			if !answered(q) {
 				if e != api.ErrArg || a != (api.Digest{}) {
 					t.Fatal(q, a, e)
 				}
@@ -1087,7 +1168,7 @@ func TestAnyInput(t *testing.T) {
 			}
 			n := chance.Intn(120) - 10
 			s, e := o.Stream(q, n)
-			if q.Kind != api.QStream || !domain || n < 0 {
+			if q.Kind != api.QStream || q.Domain < 1 || q.Domain > 16 || n < 0 {
 				if e != api.ErrArg || s != nil {
 					t.Fatal(q, n, s, e)
 				}
@@ -1108,6 +1189,7 @@ func TestTextOfAnything(t *testing.T) {
 	for _, q := range []api.Question{
 		{},
 		{Kind: -1, Domain: -1},
+		{Kind: api.QDigest, Key: digest(1), Domain: api.DomData, Data: sample(3)},
 		{Kind: math.MaxInt, Domain: math.MinInt, Data: sample(100)},
 	} {
 		if got := oracle.Text(q); len(got) != 34+len(q.Data) || !bytes.Equal(got, text(q)) {
