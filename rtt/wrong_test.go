@@ -462,31 +462,6 @@ func TestSetChangesEightBytes(t *testing.T) {
 	}
 }
 
-// An entry that the level may not hold is no entry there.
-func TestEntriesOfAnotherLevelCountAsEmpty(t *testing.T) {
-	for _, page := range edges() {
-		for level := range 4 {
-			b := fresh(t, 16)
-			g := b.down(page, level)
-			bad := []api.Entry{data(spare), shared(root), {Kind: api.EntryExported}, {Kind: api.EntryAwaiting}}
-			if level == 3 {
-				bad = []api.Entry{table(root), table(g), table(b.free), table(api.MaxGranules - 1)}
-			}
-			for _, e := range bad {
-				b.put(g, bytesOf(four(e)...))
-				b.walks(page, api.Walk{Level: level, Table: g, Slot: slot(page, level)}, e)
-				if l := b.leaves(root); len(l) != 0 {
-					t.Error(page, level, e, l)
-				}
-				// Blank does not know the level.
-				if b.x.Blank(g) {
-					t.Error("Blank", page, level, e)
-				}
-			}
-		}
-	}
-}
-
 // An EntryTable whose granule is no Table ends the way, on each level above the last.
 func TestWhatLeadsToNoTable(t *testing.T) {
 	for _, page := range edges() {
@@ -524,18 +499,4 @@ func TestWhatLeadsToNoTable(t *testing.T) {
 			}
 		}
 	}
-}
-
-// Tables that lead in a ring: each way ends, on the level 3.
-func TestTablesThatLeadInARing(t *testing.T) {
-	b := fresh(t, 16)
-	b.put(root, bytesOf(four(table(root))...))
-	for page := range 256 {
-		b.walks(page, api.Walk{Level: 3, Table: root, Slot: page % 4})
-	}
-	if l := b.leaves(root); len(l) != 0 {
-		t.Error(l)
-	}
-	b.keeps(api.ErrUse, 5, 1)
-	b.keeps(api.ErrUse, 5, 2)
 }
