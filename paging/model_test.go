@@ -289,14 +289,6 @@ func (a *model) free(g int) []cond {
 	}
 }
 
-// loose is what a page's own granule must be to be taken from it.
-func (a *model) loose(at, page int) cond {
-	return cond{api.ErrUse, func() bool {
-		e := a.entry(a.realms[at], page)
-		return e.Kind != 2 || a.rows[e.Granule].Held == 0
-	}}
-}
-
 func (a *model) host(g int) cond {
 	return cond{api.ErrOwner, func() bool { return g >= 0 && g < many && a.rows[g].State == 0 }}
 }
@@ -307,12 +299,26 @@ func (a *model) lay(r *own, page, g int, b api.Granule) {
 	a.set(r, page, 2, g)
 }
 
-// leave takes a page's granule from it, and tells which that was.
+// leave takes a page's granule from it, and tells which that was: it is noughts, and Delegated, where there is a step from what it is.
 func (a *model) leave(r *own, page int, left api.EntryKind) int {
 	g := a.entry(r, page).Granule
 	a.set(r, page, left, 0)
-	a.memory[g], a.rows[g] = api.Granule{}, api.Row{State: 1}
+	if g >= many {
+		return g
+	}
+	a.memory[g] = api.Granule{}
+	if a.rows[g].State == 5 && a.rows[g].Held == 0 {
+		a.rows[g] = api.Row{State: 1}
+	}
 	return g
+}
+
+// plain is the bytes of a page that has a granule.
+func (a *model) plain(r *own, page int) api.Granule {
+	if g := a.entry(r, page).Granule; g < many {
+		return a.memory[g]
+	}
+	return api.Granule{}
 }
 
 func (a *model) place(at, page, g int, b api.Granule) api.Errno {
@@ -337,7 +343,7 @@ func (a *model) zero(at, page, g int) api.Errno {
 }
 
 func (a *model) export(at, page, to int) (uint64, api.Errno) {
-	l := append(a.ahead(at, page), a.state(at, 1, 2), a.isEntry(at, page, 2), a.loose(at, page), a.host(to),
+	l := append(a.ahead(at, page), a.state(at, 1, 2), a.isEntry(at, page, 2), a.host(to),
 		cond{api.ErrLimit, func() bool { return a.realms[at].realm.Counter < last }},
 		cond{api.ErrFresh, func() bool { return a.holds(a.realms[at], page, a.none(page)) }})
 	if e := first(l); e != api.OK {
@@ -345,7 +351,7 @@ func (a *model) export(at, page, to int) (uint64, api.Errno) {
 	}
 	r := a.realms[at]
 	r.realm.Counter++
-	sealed := a.masked(r, page, r.realm.Counter, a.memory[a.entry(r, page).Granule])
+	sealed := a.masked(r, page, r.realm.Counter, a.plain(r, page))
 	a.write(r, page, a.leaf(page, r.realm.Counter, sealed))
 	a.memory[to] = sealed
 	a.leave(r, page, 4)
@@ -368,7 +374,7 @@ func (a *model) bringIn(at, page, g, src int, counter uint64) api.Errno {
 }
 
 func (a *model) destroy(at, page int) (int, api.Errno) {
-	l := append(a.ahead(at, page), a.isEntry(at, page, 2, 4), a.loose(at, page),
+	l := append(a.ahead(at, page), a.isEntry(at, page, 2, 4),
 		cond{api.ErrFresh, func() bool {
 			r := a.realms[at]
 			if a.entry(r, page).Kind == 2 || r.realm.State == 3 {

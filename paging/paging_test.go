@@ -429,6 +429,69 @@ func TestLastCounter(t *testing.T) {
 	})
 }
 
+// held has pages of a realm whose granules are held, once and more often, in a realm that is in that state.
+func (b *bench) held(s api.RState) map[int]int {
+	b.t.Helper()
+	of := map[int]int{0: spare, 66: spare + 1, 127: spare + 2}
+	for page, g := range of {
+		b.lays(rd, page, g, bytesOf(byte(page)))
+		for range 1 + page {
+			b.hold(g)
+		}
+	}
+	b.becomes(rd, s)
+	return of
+}
+
+// A page whose granule is held, once and more often, is taken out as any other, and comes in into another one; nothing lets go of its granule, which so stays the realm's.
+func TestExportOfHeld(t *testing.T) {
+	for _, s := range []api.RState{api.New, api.Active} {
+		inModes(t, distinctModes(), func(b *bench) {
+			of := b.held(s)
+			for i, page := range []int{66, 0, 127} {
+				g := of[page]
+				x := b.takes(rd, page, dst+i)
+				b.isAt(rd, page, api.Entry{Kind: 4})
+				b.isRow(g, api.Row{State: api.StateData, Owner: 1, Held: 1 + page}, api.Granule{})
+				refuses(b, b.page(rd, page), api.ErrState)
+				refuses(b, b.export(rd, page, dst), api.ErrState)
+				b.wrong(b.bringIn(rd, page, g, dst+i, x.counter), api.ErrState)
+				b.right(b.bringIn(rd, page, spare+10+i, dst+i, x.counter))
+				b.gets(rd, page, bytesOf(byte(page)))
+			}
+		})
+	}
+}
+
+// That the page's granule is held is no error ahead of, or among, those that there are.
+func TestErrorsOfHeld(t *testing.T) {
+	inModes(t, distinctModes(), func(b *bench) {
+		of := b.held(api.New)
+		for page, g := range of {
+			asked := b.asks()
+			for _, to := range []int{-1, many, rd, root, g, spare + 10, mine - 1} {
+				refuses(b, b.export(rd, page, to), api.ErrOwner)
+			}
+			b.counts(rd, last)
+			b.turnNode(rd, 3-page/64, 9)
+			refuses(b, b.export(rd, page, g), api.ErrOwner)
+			refuses(b, b.export(rd, page, dst), api.ErrLimit)
+			if b.asks() != asked {
+				b.t.Error("asked something")
+			}
+			b.counts(rd, 0)
+			refuses(b, b.export(rd, page, dst), api.ErrFresh)
+			b.turnNode(rd, 3-page/64, 9)
+		}
+		c := b.apart()
+		c.becomes(rd, api.Dead)
+		for page := range of {
+			refuses(c, c.export(rd, page, dst), api.ErrState)
+			b.takes(rd, page, dst)
+		}
+	})
+}
+
 // P17.3
 
 // What goes out comes in as it was, again and again, by other granules.
@@ -539,6 +602,35 @@ func TestDestroyOfData(t *testing.T) {
 			}
 			if !reflect.DeepEqual(b.realm(rd), was) || b.asks() != asked {
 				b.t.Error("the realm is changed, or something was asked")
+			}
+		})
+	}
+}
+
+// A page whose granule is held, once and more often, is destroyed as any other; nothing lets go of its granule, which so stays the realm's.
+func TestDestroyOfHeld(t *testing.T) {
+	for _, s := range []api.RState{api.New, api.Active, api.Dead} {
+		inModes(t, modes(), func(b *bench) {
+			b.lays(rd, 2, spare+9, bytesOf(9))
+			for i, page := range edgePages()[3:] {
+				b.lays(rd, page, spare+i, plains()[i])
+				for range 1 + i*i {
+					b.hold(spare + i)
+				}
+			}
+			b.becomes(rd, s)
+			asked := b.asks()
+			for i, page := range edgePages()[3:] {
+				says(b, b.destroy(rd, page), spare+i)
+				b.isAt(rd, page, api.Entry{Kind: 3})
+				b.isRow(spare+i, api.Row{State: api.StateData, Owner: 1, Held: 1 + i*i}, api.Granule{})
+				refuses(b, b.destroy(rd, page), api.ErrState)
+				refuses(b, b.page(rd, page), api.ErrState)
+				says(b, b.reclaim(rd, page), true)
+			}
+			b.gets(rd, 2, bytesOf(9))
+			if b.asks() != asked {
+				b.t.Error("asked something")
 			}
 		})
 	}

@@ -353,40 +353,31 @@ func TestWrongGranulesOfTheHost(t *testing.T) {
 	says(c, c.export(rd, 1, otherNodes), 2)
 }
 
-// A page's own granule that is held does not leave it: nothing is changed, nor asked.
-func TestHeldPages(t *testing.T) {
-	b := fresh(t, modes()[2])
-	b.lays(rd, 0, spare, bytesOf(1))
-	b.hold(spare)
-	asked := b.asks()
-	refuses(b, b.export(rd, 0, dst), api.ErrUse)
-	refuses(b, b.export(rd, 0, -1), api.ErrUse)
-	refuses(b, b.destroy(rd, 0), api.ErrUse)
-	b.gets(rd, 0, bytesOf(1))
-	if b.asks() != asked {
-		t.Error("asked something")
-	}
-	b.let(spare)
-	says(b, b.export(rd, 0, dst), 1)
-}
-
-// Entries of pages that no call lays: nothing is changed, and nothing panics.
+// Entries of pages that no call lays: no call has an error of a granule that is none's, or another's, or that there is not; and nothing panics.
 func TestSpoiltEntries(t *testing.T) {
-	b := fresh(t, modes()[2])
-	for _, g := range []int{spare, dst, root, rd, nodes, many, 4095} {
+	spoilt := func(m mode, g int) *bench {
+		b := fresh(t, m)
+		b.lays(other, 0, spare+1, bytesOf(1))
+		b.lays(rd, 2, spare+2, bytesOf(2))
 		ok(t, b.p.X.Set(root, 0, api.Entry{Kind: api.EntryData, Granule: g}))
-		b.adopts(b.a.mode)
-		if n, e := b.p.Export(rd, 0, dst); n != 0 || e == api.OK {
-			t.Error("Export", g, n, e)
-		}
-		if n, e := b.p.Destroy(rd, 0); n != 0 || e == api.OK {
-			t.Error("Destroy", g, n, e)
-		}
-		if x, e := b.p.Page(rd, 0); (e == api.OK) != (g < many) || e != api.OK && x != (api.Granule{}) {
-			t.Error("Page", g, x, e)
-		}
-		b.asIs("spoilt", g)
+		b.adopts(m)
+		return b
 	}
+	for _, m := range []mode{modes()[0], modes()[2]} {
+		for _, g := range []int{spare, spare + 1, spare + 2, dst + 1, other, many, 4095} {
+			b := spoilt(m, g)
+			if x, e := b.p.Page(rd, 0); (e == api.OK) != (g < many) || e != api.OK && x != (api.Granule{}) {
+				t.Error("Page", g, x, e)
+			}
+			refuses(b, b.export(rd, 0, mine-1), api.ErrOwner)
+			says(b, b.export(rd, 0, dst), 1)
+			b.isAt(rd, 0, api.Entry{Kind: 4})
+			b = spoilt(m, g)
+			says(b, b.destroy(rd, 0), g)
+			b.isAt(rd, 0, api.Entry{Kind: 3})
+		}
+	}
+	b := fresh(t, modes()[2])
 	ok(t, b.p.X.Set(root, 0, api.Entry{Kind: api.EntryShared, Granule: dst}))
 	b.adopts(b.a.mode)
 	c := call{rd, 0, spare, dst, 1}
@@ -457,7 +448,7 @@ func TestOrderOfErrors(t *testing.T) {
 		b.hold(spare)
 		b.counts(rd, last)
 		l = append(l, toPage(c, 0, 1)...)
-		l = append(l, fault{api.ErrUse, func() { b.let(spare) }}, fault{api.ErrOwner, func() { c.host = mine - 1 }}, fault{api.ErrOwner, func() { c.host = dst }},
+		l = append(l, fault{api.ErrOwner, func() { c.host = mine - 1 }}, fault{api.ErrOwner, func() { c.host = dst }},
 			fault{api.ErrLimit, func() { b.counts(rd, last-1) }}, fault{api.ErrFresh, func() { b.turnNode(rd, 3, 0) }})
 		inOrder(b, "Export", func() api.Errno { return b.export(c.at, c.page, c.host).e }, l)
 
